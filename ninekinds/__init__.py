@@ -1,0 +1,1 @@
+"""Columns of numbers of nine kinds, made from one kind into another."""
