@@ -5,6 +5,8 @@ DOWN = 1
 UP = 2
 TOWARDS_ZERO = 3
 
+DOUBLE = 8
+
 # By kind; the whole kinds have none of these.
 PLACES = (0, 0, 0, 0, 0, 0, 11, 24, 53)
 LEAST_POWER = (0, 0, 0, 0, 0, 0, -24, -149, -1074)
@@ -40,6 +42,11 @@ def is_infinite(kind, bits):
 
 def is_zero(kind, bits):
     return bits % MINUS[kind] == 0
+
+
+def is_tiny(kind, bits):
+    """Whether it is one of those with fewer bits, nearer to 0 than the least with all of them, but not 0."""
+    return 0 < bits % MINUS[kind] < 1 << (PLACES[kind] - 1)
 
 
 def with_sign(kind, sign, bits):

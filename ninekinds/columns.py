@@ -34,8 +34,26 @@ def made_of_rows(table, taken, make):
     return numbers
 
 
+def take_rows(table, which):
+    """Lets the table have these of its rows alone, in this order, one as often as it is named."""
+    columns = {}
+    for c in table.columns:
+        old = table.columns[c]
+        columns[c] = Column(old.kind, [old.numbers[row] for row in which])
+    table.columns = columns
+    table.rows = len(which)
+
+
 def count_missing(numbers):
     return len([x for x in numbers if x is None])
+
+
+def not_missing(numbers):
+    return [x for x in numbers if x is not None]
+
+
+def is_set(mask, row):
+    return (mask[row // 8] >> (row % 8)) % 2 == 1
 
 
 def mask_of(holds):

@@ -186,3 +186,45 @@ def more(kind, a, b, c):
     product = exact(kind, a) * exact(kind, b)
     negative = minus(kind, a) != minus(kind, b)
     return rounded(kind, product + exact(kind, c), negative and minus(kind, c), 0)
+
+
+def valued(kind, pattern):
+    """Python compares its whole numbers and its doubles without an error, and each broken kind's are doubles."""
+    return whole_value(kind, pattern) if kind < 6 else floated(kind, pattern)
+
+
+def compares(op, kind_a, a, kind_b, b):
+    x, y = valued(kind_a, a), valued(kind_b, b)
+    return [x == y, x < y, x <= y, x != x or y != y][op]
+
+
+def classes(kind, numbers):
+    """numbers has None where one is missing."""
+    there = [(pattern, valued(kind, pattern)) for pattern in numbers if pattern is not None]
+    finite = [(pattern, x) for pattern, x in there if not (math.isnan(x) or abs(x) == math.inf)]
+    wholes = [int(x) for pattern, x in finite if x == int(x)]
+    least = {6: Fraction(1, 2 ** 14), 7: Fraction(1, 2 ** 126), 8: Fraction(1, 2 ** 1022)}.get(kind, 0)
+    return [len(there), len(numbers) - len(there), len([x for pattern, x in there if math.isnan(x)]),
+            len([x for pattern, x in there if abs(x) == math.inf]), len([x for pattern, x in finite if x == 0]),
+            len([x for pattern, x in finite if x < 0]), len([x for pattern, x in finite if 0 < abs(x) < least]),
+            len(wholes), len([x for x in wholes if x & 1])]
+
+
+def summed(kind, numbers):
+    there = [valued(kind, pattern) for pattern in numbers if pattern is not None]
+    if kind < 6:
+        return [len(there)] + [(sum(there) >> shift) & (2 ** 64 - 1) for shift in (0, 64)]
+    if not all(math.isfinite(x) for x in there):
+        endless = sum(x for x in there if not math.isfinite(x))
+        return [len(there), PLAIN[8] if math.isnan(endless) else signed(8, endless < 0, INFINITY[8]), 0]
+    return [len(there), rounded(8, sum((Fraction(x) for x in there), Fraction(0)), False, 0), 0]
+
+
+def ends(kind, numbers):
+    there = [pattern for pattern in numbers if pattern is not None]
+    if kind < 6:
+        ordered = [x & (2 ** 64 - 1) for x in sorted(whole_value(kind, pattern) for pattern in there)]
+    else:
+        ordered = sorted([pattern for pattern in there if not is_none(kind, pattern)],
+                         key=lambda pattern: (floated(kind, pattern), not minus(kind, pattern)))
+    return [len(ordered), ordered[0], ordered[-1]] if ordered else [-5]

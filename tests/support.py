@@ -87,6 +87,52 @@ def more(a, b, c, to):
     return [9, a, b, c, to]
 
 
+def compare(op, a, b, n):
+    return [10, op, a, b, n]
+
+
+def classes(c):
+    return [11, c]
+
+
+def total(c):
+    return [12, c]
+
+
+def ends(c):
+    return [13, c]
+
+
+def blank(c, n, mask):
+    return [14, c, n, len(mask)] + list(mask)
+
+
+def choose(a, b, n, to, mask):
+    return [15, a, b, n, to, len(mask)] + list(mask)
+
+
+def keep(n, mask):
+    return [16, n, len(mask)] + list(mask)
+
+
+def pick(which):
+    return [17, len(which)] + list(which)
+
+
+def told():
+    return [18]
+
+
+def told_kinds(rows, kinds):
+    """What told answers of a table with these rows and, by their numbers, these columns' kinds."""
+    return [0, rows] + [kinds.get(c, 4294967295) for c in range(16)]
+
+
+def bytes_of(held):
+    """The mask that has a 1 in the rows in which held is true."""
+    return mask_of([True if each else None for each in held])
+
+
 def mask_of(numbers):
     mask = [0] * ((len(numbers) + 7) // 8)
     for i, number in enumerate(numbers):
@@ -120,8 +166,18 @@ def made(columns, call, to, kind):
 
 
 def dump(rows):
-    """Gets that together tell all that the columns are."""
-    return [get(c, kind, rows) for c in range(16) for kind in range(9)]
+    """Calls that together tell all that the table is."""
+    return [told()] + [get(c, kind, rows) for c in range(16) for kind in range(9)]
+
+
+def whole_edges(kind):
+    """Numbers of a whole kind by their bits, about 0 and about the least and the greatest."""
+    top = 1 << (BITS[kind] - 1)
+    return [0, 1, 2, 3, 10, top - 2, top - 1, top, top + 1, 2 * top - 2, 2 * top - 1]
+
+
+def all_edges(kind):
+    return whole_edges(kind) if kind < 6 else edges(kind)
 
 
 def edges(kind):

@@ -2,7 +2,7 @@
 
 import unittest
 
-from support import BITS, begin, cast, dump, edges, get, put, run, scattered, told_by_get
+from support import BITS, begin, cast, dump, edges, get, put, run, scattered, told_by_get, told_kinds
 
 
 class Begin(unittest.TestCase):
@@ -11,7 +11,7 @@ class Begin(unittest.TestCase):
             self.assertEqual(run(begin(rows), get(0, 0, rows)), [[0], [-3]])
 
     def test_no_column_is_there(self):
-        self.assertEqual(run(begin(3), *dump(3)), [[0]] + [[-3]] * 144)
+        self.assertEqual(run(begin(3), *dump(3)), [[0], told_kinds(3, {})] + [[-3]] * 144)
 
     def test_refuses_other_rows_and_leaves_all_as_it_was(self):
         before = run(begin(2), put(3, 0, [5, 6]), *dump(2))
